@@ -1,0 +1,1 @@
+"""Longwork: long works, begun again from kept marks."""
