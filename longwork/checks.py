@@ -1,12 +1,13 @@
-"""What is let by of what is handed in: programs and numbers."""
+"""What is let by of what is handed in: programs, numbers, ways, and how often marks are kept."""
 
-from longwork.errors import BadHanded, BadProgram
+from longwork.errors import BadHanded, BadOften, BadProgram, BadWay
 
 MOST_NAMES = 8
 MOST_FILES = 4
 MOST_ROWS = 60
 MOST_HANDED = 40
 MOST_DEEP = 3
+MOST_OFTEN = 99
 TOP = 10006
 
 # A place's kind is also the word by which it is refused.
@@ -94,3 +95,13 @@ def check_handed(handed):
     for number in handed:
         if not is_number(number, 0, TOP):
             raise BadHanded("what is handed in has a thing that is no number from 0 to 10006")
+
+
+def check_way(way):
+    if way not in ("back", "on"):
+        raise BadWay("the way is neither back nor on")
+
+
+def check_often(often):
+    if not is_number(often, 0, MOST_OFTEN):
+        raise BadOften("how often marks are kept is no number from 0 to 99")

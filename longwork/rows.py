@@ -12,14 +12,27 @@ class Inside:
         self.names = [0] * names
         self.taken = 0
         self.done = 0
+        self.letters = 0
 
     def follow(self, change):
         """Stands behind the row that the change is of."""
         if change.name is not None:
             self.names[change.name] = change.worth
+        if change.letter is not None:
+            self.letters += 1
         self.taken += change.takes
         self.row = change.follows
         self.done += 1
+
+    def twin(self):
+        """Another one like this, that knows nothing of it."""
+        other = Inside(0)
+        other.row = self.row
+        other.names = list(self.names)
+        other.taken = self.taken
+        other.done = self.done
+        other.letters = self.letters
+        return other
 
 
 class Change:

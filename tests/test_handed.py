@@ -3,7 +3,9 @@
 import unittest
 
 from longwork.errors import BadHanded, BadProgram
+from longwork.judging import judged
 from longwork.plain import run
+from longwork.works import Work
 
 GOOD = (1, 1, (("take", 0),))
 NO_NUMBERS = (-1, -10**9, 10007, 10008, 10**30, True, False, None, "", "1", [], [1], (), (1,))
@@ -12,8 +14,10 @@ NO_LISTS = (None, True, False, 0, 1, -1, "", "12", (), (1,), (1, 2, 3), ([1],))
 
 class Handed(unittest.TestCase):
     def bad(self, handed):
-        with self.assertRaises(BadHanded, msg=repr(handed)):
-            run(GOOD, handed)
+        # What is behind it is wrong too, and refused later.
+        for call, behind in ((run, ()), (Work, (None, None)), (judged, (None, None, None))):
+            with self.assertRaises(BadHanded, msg=repr(handed)):
+                call(GOOD, handed, *behind)
 
     def test_numbers_at_their_bounds(self):
         for number in (0, 1, 10005, 10006):

@@ -3,7 +3,10 @@
 import unittest
 
 from longwork.errors import BadProgram
+from longwork.judging import judged
+from longwork.notes import written
 from longwork.plain import run
+from longwork.works import Work
 
 NUM = ("num", 1)
 PLACES = {
@@ -85,21 +88,29 @@ def row_of(word, at=None, place=None):
     return (word, *places)
 
 
+# All that take a program refuse it likewise, and first: what is behind it is wrong in each, or there is none.
+CALLS = ((run, (None,)), (Work, (None, None, None)), (judged, (None, None, None, None)), (written, ()))
+
+
 class Programs(unittest.TestCase):
     def good(self, program):
         try:
             self.assertEqual(len(run(program, [])), 5)
+            self.assertIsNone(Work(program, [], "on", 0).end())
+            self.assertIsNone(judged(program, [], "back", 0, []))
+            self.assertIsInstance(written(program), str)
         except BadProgram as e:
             self.fail(f"{program} was refused: {e.number}, {e.why}")
 
     def bad(self, program, number, why):
-        try:
-            run(program, [])
-        except BadProgram as e:
-            self.assertEqual((e.number, e.why), (number, why), program)
-            self.assertNotIsInstance(e.number, bool)
-        else:
-            self.fail(f"{program} was let by")
+        for call, behind in CALLS:
+            try:
+                call(program, *behind)
+            except BadProgram as e:
+                self.assertEqual((e.number, e.why), (number, why), program)
+                self.assertNotIsInstance(e.number, bool)
+            else:
+                self.fail(f"{program} was let by")
 
 
 class GoodPrograms(Programs):

@@ -5,24 +5,10 @@ import unittest
 
 from longwork.plain import run
 
+from samples import ALL_WORDS, counted
+
 NUM = ("num", 1)
 MARK = ("mark",)
-ALL_WORDS = (2, 2, (
-    ("take", 0), ("add", 0, ("name", 0)), ("add", 1, ("sum", ("name", 0), NUM)), ("put", 1, ("num", 0), ("num", 9)),
-    ("get", 1, 1, ("num", 0)), ("size", 0, 0), ("cut", 0, ("num", 0)), ("send", ("name", 1)), ("mark",),
-    ("unless", 0, 11), ("go", 11), ("set", 0, ("less", ("num", 0), NUM)),
-))
-
-
-def counted(rounds, *behind):
-    """A program that goes round so often, four rows each, then does the rows behind."""
-    turn = (
-        ("set", 1, ("less", ("name", 0), ("num", rounds))),
-        ("unless", 1, 4),
-        ("set", 0, ("sum", ("name", 0), NUM)),
-        ("go", 0),
-    )
-    return (2, 1, turn + behind)
 
 
 class Ends(unittest.TestCase):
