@@ -30,6 +30,12 @@ BARRED_ATTRIBUTES = set("""
     items keys values pop update append clear extend insert remove reverse setdefault sort args encode decode hex
     fromhex format real imag numerator denominator
 """.split())
+BUILTIN_METHODS = set("""
+    append clear copy count endswith extend find get index insert isalnum isalpha isdigit islower isspace isupper items
+    join keys ljust lower lstrip partition pop remove replace reverse rfind rjust rpartition rsplit rstrip setdefault
+    split splitlines startswith strip update upper values zfill bit_length title capitalize swapcase casefold center
+    expandtabs removeprefix removesuffix rindex isascii isdecimal isnumeric istitle isidentifier isprintable __init__
+""".split())
 
 
 def trees():
@@ -135,10 +141,58 @@ class Code(unittest.TestCase):
     def test_methods_and_attributes(self):
         own_methods = {name for path, tree in trees() for name in methods(tree)}
         attributes = {name for path, tree in trees() for name in assigned_attributes(tree)}
-        # The methods of the interface count from the beginning on.
-        own_methods |= {"move", "fall", "files", "sent", "stands", "kept", "end", "steps"}
         self.assertEqual(own_methods & attributes, set())
         self.assertEqual(attributes & BARRED_ATTRIBUTES, set())
+        known = own_methods | attributes | BUILTIN_METHODS
+        for path, tree in trees():
+            for node in ast.walk(tree):
+                if isinstance(node, ast.Attribute):
+                    self.assertIn(node.attr, known, f"{path.name}: {node.lineno}")
+
+    def test_names_of_imports_and_classes_mean_nothing_else(self):
+        for path, tree in trees():
+            imports = [one.name for node in tree.body if isinstance(node, ast.ImportFrom) for one in node.names]
+            classes = [node.name for node in tree.body if isinstance(node, ast.ClassDef)]
+            taken = {node.id for node in ast.walk(tree) if isinstance(node, ast.Name) and isinstance(node.ctx, ast.Store)}
+            taken |= {node.arg for node in ast.walk(tree) if isinstance(node, ast.arg)}
+            self.assertEqual(taken & {*imports, *classes}, set(), path.name)
+
+    def test_no_two_files_import_from_each_other(self):
+        imports = {path.stem: [node.module.split(".")[1] for node in tree.body if isinstance(node, ast.ImportFrom)]
+                   for path, tree in trees()}
+        for first in imports:
+            reached, ahead = set(), list(imports[first])
+            while ahead:
+                name = ahead.pop()
+                if name not in reached:
+                    reached.add(name)
+                    ahead += imports[name]
+            self.assertNotIn(first, reached)
+
+    def test_each_name_is_imported_from_the_file_that_defines_it(self):
+        defined = {f"longwork.{path.stem}": [node.name for node in tree.body if hasattr(node, "name")]
+                   + [node.targets[0].id for node in tree.body if isinstance(node, ast.Assign)]
+                   for path, tree in trees()}
+        for path, tree in trees():
+            for node in tree.body:
+                if isinstance(node, ast.ImportFrom):
+                    for one in node.names:
+                        self.assertIn(one.name, defined[node.module], path.name)
+                        self.assertIsNone(one.asname)
+
+    def test_tables_hold_no_lists_and_no_dicts(self):
+        for path, tree in trees():
+            for node in tree.body:
+                if isinstance(node, ast.Assign):
+                    inner = [one for one in ast.walk(node.value) if one is not node.value]
+                    self.assertFalse([one for one in inner if isinstance(one, (ast.List, ast.Dict))], path.name)
+
+    def test_errors_are_made_where_they_are_raised(self):
+        for path, tree in trees():
+            for node in ast.walk(tree):
+                if isinstance(node, ast.Raise):
+                    self.assertIsInstance(node.exc, ast.Call, f"{path.name}: {node.lineno}")
+                    self.assertIsInstance(node.exc.func, ast.Name, f"{path.name}: {node.lineno}")
 
 
 if __name__ == "__main__":
